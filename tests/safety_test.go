@@ -28,6 +28,13 @@ var (
 	_ func(impl.Zone, int) []int     = impl.ZoneTimes
 	_ func(int) string               = impl.TimeText
 	_ func(string) (int, bool)       = impl.TimeGet
+
+	_ func(impl.Rule) bool            = impl.RuleOk
+	_ func(impl.Rule) string          = impl.RulePut
+	_ func(string) (impl.Rule, bool)  = impl.RuleGet
+	_ func(impl.Rule, int, int) []int = impl.RuleDays
+	_ func(impl.Rule, int, int) bool  = impl.RuleOn
+	_ func(impl.Rule, int, int) int   = impl.RuleNext
 )
 
 // A panic ends the test, so that calling is enough.
