@@ -35,6 +35,14 @@ var (
 	_ func(impl.Rule, int, int) []int = impl.RuleDays
 	_ func(impl.Rule, int, int) bool  = impl.RuleOn
 	_ func(impl.Rule, int, int) int   = impl.RuleNext
+
+	_ func([]impl.Zone) bool                                                    = impl.ZonesOk
+	_ func([]impl.Zone, impl.Event) bool                                        = impl.EventOk
+	_ func([]impl.Zone, impl.Event, int, int) []impl.Hit                        = impl.EventHits
+	_ func(impl.Event, int) bool                                                = impl.EventComes
+	_ func([]impl.Zone, impl.Event, int) (impl.Event, bool)                     = impl.EventOut
+	_ func([]impl.Zone, impl.Event, impl.Over) (impl.Event, bool)               = impl.EventOver
+	_ func([]impl.Zone, impl.Event, int, string) (impl.Event, impl.Event, bool) = impl.EventSplit
 )
 
 // A panic ends the test, so that calling is enough.
