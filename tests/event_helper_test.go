@@ -243,6 +243,12 @@ func someOver(rng *rand.Rand, at int) impl.Over {
 func someEvent(rng *rand.Rand) ([]impl.Zone, impl.Event, []int) {
 	e := impl.Event{Id: []string{"a", "tea", "abcdefgh", "0"}[rng.Intn(4)], Title: someTitle(rng), Start: someBeginning(rng), Long: someLong(rng)}
 	zones := someClocks(rng, e.Start)
+	e, times := someEventIn(rng, zones, e)
+	return zones, e, times
+}
+
+// someEventIn is an event with a zone, a rule and changes, and all times at which it comes.
+func someEventIn(rng *rand.Rand, zones []impl.Zone, e impl.Event) (impl.Event, []int) {
 	e.Zone = zones[rng.Intn(len(zones))].Name
 	e.Rule = someEventRule(rng, e.Start/dayMinutes)
 	times := slowEventTimes(e)
@@ -263,7 +269,7 @@ func someEvent(rng *rand.Rand) ([]impl.Zone, impl.Event, []int) {
 			slices.SortFunc(e.Overs, func(a, b impl.Over) int { return a.At - b.At })
 		}
 	}
-	return zones, e, times
+	return e, times
 }
 
 // someEvents calls for many events that are ok, and the same ones each time.

@@ -43,6 +43,13 @@ var (
 	_ func([]impl.Zone, impl.Event, int) (impl.Event, bool)                     = impl.EventOut
 	_ func([]impl.Zone, impl.Event, impl.Over) (impl.Event, bool)               = impl.EventOver
 	_ func([]impl.Zone, impl.Event, int, string) (impl.Event, impl.Event, bool) = impl.EventSplit
+
+	_ func([]impl.Span) bool                                = impl.SpansOk
+	_ func([]impl.Span) []impl.Span                         = impl.Busy
+	_ func([]impl.Zone, []impl.Event, int, int) []impl.Span = impl.BusyOf
+	_ func([]impl.Span, int, int) []impl.Span               = impl.Free
+	_ func([]impl.Span) int                                 = impl.SpanSize
+	_ func([]impl.Span, int, int, int) int                  = impl.SlotFirst
 )
 
 // A panic ends the test, so that calling is enough.
