@@ -50,6 +50,14 @@ var (
 	_ func([]impl.Span, int, int) []impl.Span               = impl.Free
 	_ func([]impl.Span) int                                 = impl.SpanSize
 	_ func([]impl.Span, int, int, int) int                  = impl.SlotFirst
+
+	_ func([]impl.Zone) (impl.Store, bool)                = impl.StoreNew
+	_ func(impl.Store) bool                               = impl.StoreOk
+	_ func(impl.Store, impl.Event, int) (impl.Store, int) = impl.StorePut
+	_ func(impl.Store, string, int) (impl.Store, int)     = impl.StoreGone
+	_ func(impl.Store, string) (impl.Event, bool)         = impl.StoreGet
+	_ func(impl.Store, int, int) (impl.News, bool)        = impl.StoreNews
+	_ func(impl.Store, int, int) []impl.Hit               = impl.StoreHits
 )
 
 // A panic ends the test, so that calling is enough.
