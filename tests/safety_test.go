@@ -58,6 +58,26 @@ var (
 	_ func(impl.Store, string) (impl.Event, bool)         = impl.StoreGet
 	_ func(impl.Store, int, int) (impl.News, bool)        = impl.StoreNews
 	_ func(impl.Store, int, int) []impl.Hit               = impl.StoreHits
+
+	_ func(string) string             = impl.EscPut
+	_ func(string) (string, bool)     = impl.EscGet
+	_ func(string) string             = impl.Fold
+	_ func(string) ([]string, bool)   = impl.Unfold
+	_ func(impl.Prop) bool            = impl.PropOk
+	_ func(impl.Prop) string          = impl.PropPut
+	_ func(string) (impl.Prop, bool)  = impl.PropGet
+	_ func(impl.Event) string         = impl.IcalPut
+	_ func(string) (impl.Event, bool) = impl.IcalGet
+
+	_ func([]impl.Zone, impl.Meet) bool                                 = impl.MeetOk
+	_ func([]impl.Zone, impl.Event, string, []string) (impl.Meet, bool) = impl.MeetNew
+	_ func([]impl.Zone, impl.Meet, impl.Event) (impl.Meet, bool)        = impl.MeetChange
+	_ func([]impl.Zone, impl.Meet, string, bool) (impl.Meet, bool)      = impl.MeetAsk
+	_ func([]impl.Zone, impl.Meet, string, int, int) (impl.Meet, bool)  = impl.MeetSay
+	_ func([]impl.Zone, impl.Meet) (impl.Meet, bool)                    = impl.MeetOff
+	_ func(impl.Meet, int) int                                          = impl.MeetCount
+	_ func(impl.Meet) impl.Letter                                       = impl.MeetLetter
+	_ func(impl.Letter, impl.Letter) impl.Letter                        = impl.LetterTake
 )
 
 // A panic ends the test, so that calling is enough.
