@@ -22,7 +22,7 @@ func checkEsc(t *testing.T, text string) {
 	if put != slowEscPut(text) {
 		t.Fatalf("%q is written %q", text, put)
 	}
-	if back, ok := impl.EscGet(put); len(text) <= 300 && len(put) <= 300 && (!ok || back != text) {
+	if back, ok := impl.EscGet(put); len(text) <= 300 && (!ok || back != text) {
 		t.Fatalf("%q is read back %q %v", text, back, ok)
 	}
 	want, is := slowEscGet(text)
@@ -65,7 +65,7 @@ func TestEscOfAllSmall(t *testing.T) {
 }
 
 func TestEscSizes(t *testing.T) {
-	for size := range 330 {
+	for size := range 620 {
 		for _, sign := range []string{"a", " ", ";", `\`, "\n", "\x00", "\xe9"} {
 			text := strings.Repeat(sign, size)
 			checkEsc(t, text)
@@ -77,7 +77,7 @@ func TestEscSizes(t *testing.T) {
 			t.Errorf("%d bytes: %v", size, ok)
 		}
 		text := strings.Repeat(`\;`, size/2) + strings.Repeat("a", size%2)
-		if got, ok := impl.EscGet(text); ok != (size <= 300) || ok != (len(got) == (size+1)/2) {
+		if got, ok := impl.EscGet(text); ok != (size <= 600) || ok != (len(got) == (size+1)/2) {
 			t.Errorf("%d bytes, half of them strokes: %v", size, ok)
 		}
 	}
@@ -87,12 +87,40 @@ func TestEscSizes(t *testing.T) {
 	}
 }
 
+// checkStrokes writes a text of any size, and reads that, and the same with what is never written at its ends.
+func checkStrokes(t *testing.T, text string) {
+	t.Helper()
+	put := slowStrokes(text)
+	checkEsc(t, text)
+	checkEsc(t, put)
+	if got, ok := impl.EscGet(put); ok != (len(text) <= 300) || ok != (got == text) {
+		t.Fatalf("%d bytes, written with %d: %d bytes, %v", len(text), len(put), len(got), ok)
+	}
+	for _, wrong := range []string{put + `\`, put + ";", put + `\x`, ";" + put, `\x` + put, "\n" + put} {
+		checkEsc(t, wrong)
+		if got, ok := impl.EscGet(wrong); ok || got != "" {
+			t.Fatalf("%q is read %q %v", wrong, got, ok)
+		}
+	}
+}
+
+// Texts about the limit, and about half of it, with each number of strokes, ahead of all else or behind it.
+func TestEscOfManyStrokes(t *testing.T) {
+	for _, size := range []int{1, 2, 149, 150, 151, 152, 298, 299, 300, 301, 302} {
+		for strokes := range size + 1 {
+			sign := []string{";", ",", `\`, "\n"}[strokes%4]
+			checkStrokes(t, strings.Repeat(sign, strokes)+strings.Repeat("a", size-strokes))
+			checkStrokes(t, strings.Repeat("a", size-strokes)+strings.Repeat(sign, strokes))
+		}
+	}
+}
+
 func TestEscOfAllSorts(t *testing.T) {
 	rng := rand.New(rand.NewSource(61))
 	for range 6000 {
 		checkEsc(t, someBytes(rng, rng.Intn(302), ""))
 		checkEsc(t, someBytes(rng, rng.Intn(20), `an\;,`+"\n"))
-		checkEsc(t, slowEscPut(someBytes(rng, rng.Intn(200), `an \;,`)))
+		checkStrokes(t, someBytes(rng, rng.Intn(310), `an \;,`+"\n"))
 	}
 }
 

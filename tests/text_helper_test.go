@@ -25,20 +25,24 @@ func slowEscPut(text string) string {
 	if len(text) > escMost {
 		return ""
 	}
+	return slowStrokes(text)
+}
+
+// slowStrokes writes a text of any size.
+func slowStrokes(text string) string {
 	text = strings.Join(strings.Split(text, `\`), `\\`)
 	text = strings.Join(strings.Split(text, ";"), `\;`)
 	text = strings.Join(strings.Split(text, ","), `\,`)
 	return strings.Join(strings.Split(text, "\n"), `\n`)
 }
 
-// slowEscGet takes the text's beginnings away, one by one, that may stand there.
+// slowEscGet takes the text's beginnings away, one by one, that may stand there, as long as there is room for one more.
 func slowEscGet(text string) (string, bool) {
-	if len(text) > escMost {
-		return "", false
-	}
 	read := ""
 	for text != "" {
 		switch {
+		case len(read) == escMost:
+			return "", false
 		case strings.HasPrefix(text, `\\`), strings.HasPrefix(text, `\;`), strings.HasPrefix(text, `\,`):
 			read, text = read+text[1:2], text[2:]
 		case strings.HasPrefix(text, `\n`):
