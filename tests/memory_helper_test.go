@@ -76,3 +76,23 @@ func writeWhole(b *strings.Builder, v reflect.Value) {
 		fmt.Fprintf(b, "%#v ", v.Interface())
 	}
 }
+
+// scribbleAny writes nothing into all lists of a value, and all room behind them.
+func scribbleAny(v any) {
+	scribbleIn(reflect.ValueOf(v))
+}
+
+func scribbleIn(v reflect.Value) {
+	switch v.Kind() {
+	case reflect.Struct:
+		for i := range v.NumField() {
+			scribbleIn(v.Field(i))
+		}
+	case reflect.Slice:
+		whole := v.Slice(0, v.Cap())
+		for i := range whole.Len() {
+			scribbleIn(whole.Index(i))
+			whole.Index(i).SetZero()
+		}
+	}
+}
